@@ -1,0 +1,106 @@
+"""Point [2] for all functions, and the interface: modules, names and arguments."""
+
+import copy
+import importlib
+import inspect
+import unittest
+
+from tests.helper import MANY, stray_kinds
+
+ROWS = ((2, -3, 0), (0, 1, -2))
+ANSWER = (6, 4, 2)
+
+INTERFACE = {
+    "vectors": {
+        "below": ("one", "other"), "plus": ("one", "other"), "minus": ("one", "other"), "times": ("many", "one"),
+        "size": ("one",), "nought": ("width",), "unit": ("width", "j"), "least_of": ("some",),
+        "above_any": ("some", "one"),
+    },
+    "sums": {
+        "sums": ("rows", "one"), "is_answer": ("rows", "one"), "pull": ("rows", "one", "j"),
+        "falls": ("rows", "one"),
+    },
+    "ways": {"way": ("rows", "one"), "pieces": ("rows", "one")},
+}
+
+# Module, function, what is handed in, what is told.
+CALLS = (
+    ("vectors", "below", ((1, 2), (1, 3)), True),
+    ("vectors", "below", ((1, 4), (1, 3)), False),
+    ("vectors", "plus", ((1, 2), (MANY, 3)), (MANY + 1, 5)),
+    ("vectors", "minus", ((1, 4), (1, 3)), (0, 1)),
+    ("vectors", "times", (2, (1, 3)), (2, 6)),
+    ("vectors", "size", ((1, 3),), 4),
+    ("vectors", "nought", (3,), (0, 0, 0)),
+    ("vectors", "unit", (3, 1), (0, 1, 0)),
+    ("vectors", "least_of", (((2, 1), (1, 2), (2, 2), (1, 2)),), ((1, 2), (2, 1))),
+    ("vectors", "above_any", (((2, 1), (1, 2)), (1, 1)), False),
+    ("vectors", "above_any", (((2, 1), (1, 2)), (1, 2)), True),
+    ("sums", "sums", (ROWS, (1, 1, 1)), (-1, -1)),
+    ("sums", "is_answer", (ROWS, ANSWER), True),
+    ("sums", "is_answer", (ROWS, (6, 4, 3)), False),
+    ("sums", "pull", (ROWS, (1, 1, 1), 0), -2),
+    ("sums", "falls", (ROWS, (0, 0, 1)), (1,)),
+    ("ways", "way", (ROWS, (0, 0, 0)), ()),
+    # By hand: the sums on the way are (2, 0), (-1, 1), (1, 1), (-2, 2), (0, 2) and (0, 0).
+    ("ways", "way", (ROWS, (3, 2, 1)), (0, 1, 0, 1, 0, 2)),
+    ("ways", "pieces", (ROWS, ANSWER), ((3, 2, 1), (3, 2, 1))),
+)
+
+
+def the_function(module, name):
+    return getattr(importlib.import_module("leastlays." + module), name)
+
+
+class Interface(unittest.TestCase):
+    def test_names_and_arguments(self):
+        for module, names in INTERFACE.items():
+            for name, arguments in names.items():
+                told = inspect.signature(the_function(module, name)).parameters
+                self.assertEqual(tuple(told), arguments, name)
+
+    def test_each_function_is_called_here(self):
+        called = {(module, name) for module, name, handed, told in CALLS}
+        self.assertEqual(called, {(module, name) for module, names in INTERFACE.items() for name in names})
+
+
+class ForAll(unittest.TestCase):
+    def test_told(self):
+        for module, name, handed, told in CALLS:
+            answer = the_function(module, name)(*handed)
+            self.assertEqual(answer, told, name)
+            self.assertIs(type(answer), type(told), name)
+
+    def test_kinds_told(self):
+        for module, name, handed, told in CALLS:
+            self.assertEqual(stray_kinds(the_function(module, name)(*handed)), [], name)
+
+    def test_truths_only_where_a_whether_is_told(self):
+        for module, name, handed, told in CALLS:
+            answer = the_function(module, name)(*handed)
+            if type(told) is not bool:
+                self.assertNotRegex(repr(answer), "True|False")
+
+    def test_nothing_handed_in_is_changed(self):
+        for module, name, handed, told in CALLS:
+            kept = copy.deepcopy(handed)
+            shown = repr(handed)
+            the_function(module, name)(*handed)
+            self.assertEqual(handed, kept, name)
+            self.assertEqual(repr(handed), shown, name)
+
+    def test_asked_again_the_same_is_told(self):
+        for again in range(3):
+            for module, name, handed, told in CALLS + CALLS[::-1]:
+                self.assertEqual(the_function(module, name)(*handed), told, name)
+
+    def test_refused_again(self):
+        for name in ("way", "pieces"):
+            for again in range(3):
+                with self.assertRaises(ValueError):
+                    the_function("ways", name)(ROWS, (1, 1, 1))
+                the_function("ways", name)(ROWS, ANSWER)
+
+
+if __name__ == "__main__":
+    unittest.main()
