@@ -114,10 +114,58 @@ class Language(unittest.TestCase):
                     for alias in node.names:
                         self.assertIn(alias.name, defined, path)
 
+    def test_no_two_files_draw_from_one_another(self):
+        drawn = {}
+        for path, tree in trees():
+            drawn[path.stem] = {node.module.split(".")[1] for node in tree.body if isinstance(node, ast.ImportFrom)}
+        while drawn:
+            last = [name for name, others in drawn.items() if not others & set(drawn)]
+            self.assertTrue(last, drawn)
+            drawn = {name: others for name, others in drawn.items() if name not in last}
+
+    def test_assignments_and_is(self):
+        for path, tree in trees():
+            for node in ast.walk(tree):
+                where = (path.name, getattr(node, "lineno", 0))
+                if isinstance(node, ast.Assign):
+                    self.assertEqual(len(node.targets), 1, where)
+                    self.assertNotIsInstance(node.targets[0], (ast.Tuple, ast.List), where)
+                if isinstance(node, ast.Compare) and any(isinstance(op, (ast.Is, ast.IsNot)) for op in node.ops):
+                    self.assertIn(ast.unparse(node.comparators[-1]), ("None", "True", "False"), where)
+
+    def test_calls_of_python_names(self):
+        keywords = {"sorted": {"key", "reverse"}, "min": {"key", "default"}, "max": {"key", "default"},
+                    "sum": {"start"}, "enumerate": {"start"}, "zip": {"strict"}}
+        for path, tree in trees():
+            for node in ast.walk(tree):
+                if isinstance(node, ast.Call) and isinstance(node.func, ast.Name) and node.func.id in KNOWN:
+                    given = {keyword.arg for keyword in node.keywords}
+                    self.assertLessEqual(given, keywords.get(node.func.id, set()), (path.name, node.lineno))
+            # A set is made straight within these alone.
+            text = ast.unparse(tree)
+            self.assertEqual(len(re.findall(r"\bset\(", text)), len(re.findall(r"\b(sorted|len)\(set\(", text)), path)
+
+    def test_no_name_is_a_method_and_a_value(self):
+        methods = set()
+        kept = set()
+        for path, tree in trees():
+            for node in ast.walk(tree):
+                if isinstance(node, ast.ClassDef):
+                    own = [part.name for part in node.body if isinstance(part, ast.FunctionDef)]
+                    self.assertEqual(len(own), len(set(own)), node.name)
+                    methods.update(own)
+                if isinstance(node, ast.Attribute) and isinstance(node.ctx, ast.Store):
+                    kept.add(node.attr)
+        self.assertEqual(methods & kept, set())
+        values = [name for kind in (str, int, list, tuple, dict, set, bytes) for name in dir(kind)]
+        self.assertEqual((methods | kept) & set(values) - DUNDERS, set())
+
     def test_names(self):
         for path, tree in trees():
             taken = {alias.asname or alias.name for node in tree.body if isinstance(node, ast.ImportFrom)
                      for alias in node.names}
+            classes = {node.name for node in tree.body if isinstance(node, ast.ClassDef)}
+            self.assertEqual(sorted(classes), sorted([name for name in bound_names(tree) if name in classes]), path)
             for name in bound_names(tree):
                 self.assertTrue(name in DUNDERS or not name.startswith("_"), (path, name))
                 self.assertNotIn(name, taken, path)

@@ -5,6 +5,7 @@ import importlib
 import inspect
 import unittest
 
+from leastlays.errors import NoAnswer, NoLay, TooMany
 from tests.helper import MANY, stray_kinds
 
 ROWS = ((2, -3, 0), (0, 1, -2))
@@ -21,7 +22,30 @@ INTERFACE = {
         "falls": ("rows", "one"),
     },
     "ways": {"way": ("rows", "one"), "pieces": ("rows", "one")},
+    "caps": {"free": ("width",), "within": ("caps", "one")},
+    "finding": {"least": ("rows", "caps", "most")},
+    "looking": {"shows": ("rows", "caps", "told", "paper")},
+    "lays": {
+        "is_lay": ("told", "one", "counts"), "laid": ("told", "one"), "lays": ("told", "one", "most"),
+        "fewest": ("told", "one"),
+    },
 }
+
+# Module, class, what it is made of, and its methods with what each takes.
+CLASSES = (
+    ("finding", "Finder", ("rows", "caps"), {"step": (), "level": (), "told": (), "paper": (), "ended": ()}),
+)
+
+# The walk of ROWS without caps, level by level.
+PAPER = (
+    (0, 0, 1), (0, 1, 0), (1, 0, 0),
+    (0, 1, 1), (1, 1, 0),
+    (1, 1, 1), (2, 1, 0),
+    (2, 1, 1), (2, 2, 0),
+    (2, 2, 1), (3, 2, 0),
+    (3, 2, 1),
+)
+FREE = (None, None, None)
 
 # Module, function, what is handed in, what is told.
 CALLS = (
@@ -45,6 +69,30 @@ CALLS = (
     # By hand: the sums on the way are (2, 0), (-1, 1), (1, 1), (-2, 2), (0, 2) and (0, 0).
     ("ways", "way", (ROWS, (3, 2, 1)), (0, 1, 0, 1, 0, 2)),
     ("ways", "pieces", (ROWS, ANSWER), ((3, 2, 1), (3, 2, 1))),
+    ("caps", "free", (3,), FREE),
+    ("caps", "within", ((1, None), (1, MANY)), True),
+    ("caps", "within", ((1, None), (2, 0)), False),
+    ("finding", "least", (ROWS, FREE, 12), (((3, 2, 1),), PAPER)),
+    ("finding", "least", (ROWS, (None, 0, 1), 2000), ((), ((0, 0, 1), (1, 0, 0)))),
+    ("looking", "shows", (ROWS, FREE, ((3, 2, 1),), PAPER), True),
+    ("looking", "shows", (ROWS, FREE, (ANSWER,), PAPER), False),
+    ("looking", "shows", (ROWS, FREE, [[3, 2, 1]], {"paper": [1]}), False),
+    ("lays", "is_lay", (((3, 2, 1),), ANSWER, (2,)), True),
+    ("lays", "is_lay", (((3, 2, 1),), ANSWER, (3,)), False),
+    ("lays", "is_lay", (((3, 2, 1),), ANSWER, [2, [2]]), False),
+    ("lays", "laid", (((3, 2), (1, 0), (0, 1)), (7, 7)), (2, 1, 3)),
+    ("lays", "lays", (((3, 2), (1, 0), (0, 1)), (3, 2), 2), ((0, 3, 2), (1, 0, 0))),
+    ("lays", "fewest", (((3, 2), (1, 0), (0, 1)), (7, 7)), (2, 1, 3)),
+)
+
+# Module, function, what is handed in, what it is refused with.
+REFUSED = (
+    ("ways", "way", (ROWS, (1, 1, 1)), NoAnswer),
+    ("ways", "pieces", (ROWS, (1, 1, 1)), NoAnswer),
+    ("finding", "least", (ROWS, FREE, 11), TooMany),
+    ("lays", "laid", (((3, 2), (1, 0)), (7, 7)), NoLay),
+    ("lays", "lays", (((3, 2), (1, 0), (0, 1)), (3, 2), 1), TooMany),
+    ("lays", "fewest", (((3, 2), (1, 0)), (7, 7)), NoLay),
 )
 
 
@@ -58,6 +106,14 @@ class Interface(unittest.TestCase):
             for name, arguments in names.items():
                 told = inspect.signature(the_function(module, name)).parameters
                 self.assertEqual(tuple(told), arguments, name)
+
+    def test_classes_and_methods(self):
+        for module, name, takes, methods in CLASSES:
+            the_class = the_function(module, name)
+            self.assertEqual(tuple(inspect.signature(the_class).parameters), takes, name)
+            for method, arguments in methods.items():
+                told = inspect.signature(getattr(the_class, method)).parameters
+                self.assertEqual(tuple(told), ("self",) + arguments, method)
 
     def test_each_function_is_called_here(self):
         called = {(module, name) for module, name, handed, told in CALLS}
@@ -94,12 +150,21 @@ class ForAll(unittest.TestCase):
             for module, name, handed, told in CALLS + CALLS[::-1]:
                 self.assertEqual(the_function(module, name)(*handed), told, name)
 
-    def test_refused_again(self):
-        for name in ("way", "pieces"):
-            for again in range(3):
-                with self.assertRaises(ValueError):
-                    the_function("ways", name)(ROWS, (1, 1, 1))
-                the_function("ways", name)(ROWS, ANSWER)
+    def test_refused_again_and_again(self):
+        for module, name, handed, refusal in REFUSED * 3:
+            shown = repr(handed)
+            with self.assertRaises(refusal) as caught:
+                the_function(module, name)(*handed)
+            self.assertIs(type(caught.exception), refusal)
+            self.assertEqual(repr(handed), shown)
+
+    def test_told_as_ever_behind_refusals(self):
+        for module, name, handed, told in CALLS:
+            for other_module, other, other_handed, refusal in REFUSED:
+                if (other_module, other) == (module, name):
+                    with self.assertRaises(refusal):
+                        the_function(module, name)(*other_handed)
+                    self.assertEqual(the_function(module, name)(*handed), told, name)
 
 
 if __name__ == "__main__":
