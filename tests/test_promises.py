@@ -29,6 +29,16 @@ INTERFACE = {
         "is_lay": ("told", "one", "counts"), "laid": ("told", "one"), "lays": ("told", "one", "most"),
         "fewest": ("told", "one"),
     },
+    "answering": {"answers": ("told", "caps", "most")},
+    "sides": {
+        "sided": ("rows", "sides"), "beyond": ("rows", "sides", "width", "most"),
+        "shows_beyond": ("rows", "sides", "width", "told", "base", "paper"),
+        "laid_beyond": ("told", "base", "one"),
+    },
+    "narrowing": {"narrowed": ("told", "row", "most"), "by_rows": ("rows", "width", "most")},
+    "joining": {
+        "beside": ("one", "width", "other", "more"), "dropped": ("told", "j"), "turned": ("told", "order"),
+    },
 }
 
 # Module, class, what it is made of, and its methods with what each takes.
@@ -46,6 +56,9 @@ PAPER = (
     (3, 2, 1),
 )
 FREE = (None, None, None)
+
+# The walk of the row (1, -1) with the side 1: (1, 0, 1) and (1, 1, 0) are answers.
+BEYOND = ((0, 0, 1), (0, 1, 0), (1, 0, 0), (1, 0, 1), (1, 1, 0))
 
 # Module, function, what is handed in, what is told.
 CALLS = (
@@ -83,6 +96,18 @@ CALLS = (
     ("lays", "laid", (((3, 2), (1, 0), (0, 1)), (7, 7)), (2, 1, 3)),
     ("lays", "lays", (((3, 2), (1, 0), (0, 1)), (3, 2), 2), ((0, 3, 2), (1, 0, 0))),
     ("lays", "fewest", (((3, 2), (1, 0), (0, 1)), (7, 7)), (2, 1, 3)),
+    ("answering", "answers", (((3, 2),), (7, 7), 3), ((0, 0), (3, 2), (6, 4))),
+    ("sides", "sided", (ROWS, (5, -7)), ((2, -3, 0, -5), (0, 1, -2, 7))),
+    ("sides", "beyond", (((1, -1),), (1,), 2, 5), (((1, 0),), ((1, 1),), BEYOND)),
+    ("sides", "shows_beyond", (((1, -1),), (1,), 2, ((1, 0),), ((1, 1),), BEYOND), True),
+    ("sides", "shows_beyond", (((1, -1),), (1,), 2, ((1, 0),), (), BEYOND), False),
+    ("sides", "shows_beyond", (((1, -1),), (1,), 2, [[1, 0]], {"base": [1]}, [BEYOND]), False),
+    ("sides", "laid_beyond", (((1, 0), (0, 1)), ((1, 1),), (2, 3)), (1, (2,))),
+    ("narrowing", "narrowed", (((0, 1), (1, 0)), (2, -3), 6), (((3, 2),), ((2, 3),))),
+    ("narrowing", "by_rows", (((2, -3),), 2, 6), (((0, 1), (1, 0)), ((3, 2),))),
+    ("joining", "beside", (((3, 2),), 2, ((4,),), 1), ((0, 0, 4), (3, 2, 0))),
+    ("joining", "dropped", (((3, 0), (0, 2)), 1), ((3,),)),
+    ("joining", "turned", (((1, 2, 3),), (1, 2, 0)), ((2, 3, 1),)),
 )
 
 # Module, function, what is handed in, what it is refused with.
@@ -93,6 +118,11 @@ REFUSED = (
     ("lays", "laid", (((3, 2), (1, 0)), (7, 7)), NoLay),
     ("lays", "lays", (((3, 2), (1, 0), (0, 1)), (3, 2), 1), TooMany),
     ("lays", "fewest", (((3, 2), (1, 0)), (7, 7)), NoLay),
+    ("answering", "answers", (((3, 2),), (7, 7), 2), TooMany),
+    ("sides", "beyond", (((1, -1),), (1,), 2, 4), TooMany),
+    ("sides", "laid_beyond", (((1, 0),), ((1, 1),), (2, 3)), NoLay),
+    ("narrowing", "narrowed", (((0, 1), (1, 0)), (2, -3), 5), TooMany),
+    ("narrowing", "by_rows", (((2, -3),), 2, 5), TooMany),
 )
 
 
