@@ -111,6 +111,7 @@ class Language(unittest.TestCase):
                     self.assertTrue(node.module.startswith("leastlays."), path)
                     drawn = ast.parse((PACKAGE / (node.module.split(".")[1] + ".py")).read_text(encoding="utf-8"))
                     defined = [part.name for part in drawn.body if hasattr(part, "name")]
+                    defined += [part.targets[0].id for part in drawn.body if isinstance(part, ast.Assign)]
                     for alias in node.names:
                         self.assertIn(alias.name, defined, path)
 
@@ -122,6 +123,43 @@ class Language(unittest.TestCase):
             last = [name for name, others in drawn.items() if not others & set(drawn)]
             self.assertTrue(last, drawn)
             drawn = {name: others for name, others in drawn.items() if name not in last}
+
+    def test_the_top_of_a_module(self):
+        kinds = (ast.ImportFrom, ast.FunctionDef, ast.ClassDef, ast.Assign)
+        for path, tree in trees():
+            self.assertIsNotNone(ast.get_docstring(tree), path)
+            named = [part.name for part in tree.body if hasattr(part, "name")]
+            for part in tree.body[1:]:
+                self.assertIsInstance(part, kinds, path)
+                if isinstance(part, ast.Assign):
+                    # Written out, so that nothing is worked out at a file's top.
+                    ast.literal_eval(part.value)
+                    named.append(part.targets[0].id)
+            self.assertEqual(len(named), len(set(named)), path)
+
+    def test_no_annotations_and_plain_f_strings(self):
+        for path, tree in trees():
+            for node in ast.walk(tree):
+                where = (path.name, getattr(node, "lineno", 0))
+                if isinstance(node, ast.FunctionDef):
+                    self.assertIsNone(node.returns, where)
+                if isinstance(node, ast.arg):
+                    self.assertIsNone(node.annotation, where)
+                if isinstance(node, ast.FormattedValue):
+                    self.assertIsInstance(node.value, ast.Name, where)
+                    self.assertIsNone(node.format_spec, where)
+                if isinstance(node, ast.BinOp) and isinstance(node.op, ast.Pow):
+                    self.assertIsInstance(node.right, ast.Constant, where)
+
+    def test_errors_taken_and_raised(self):
+        errors = ast.parse((PACKAGE / "errors.py").read_text(encoding="utf-8"))
+        own = {node.name for node in errors.body if isinstance(node, ast.ClassDef)}
+        for path, tree in trees():
+            for node in ast.walk(tree):
+                if isinstance(node, ast.ExceptHandler):
+                    self.assertIn(node.type.id, own, path)
+                if isinstance(node, ast.Raise):
+                    self.assertIn(node.exc.func.id, own, path)
 
     def test_assignments_and_is(self):
         for path, tree in trees():

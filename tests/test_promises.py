@@ -5,7 +5,8 @@ import importlib
 import inspect
 import unittest
 
-from leastlays.errors import NoAnswer, NoLay, TooMany
+from leastlays.desk import Desk
+from leastlays.errors import NoAnswer, NoLay, NoLine, NoText, TooMany
 from tests.helper import MANY, stray_kinds
 
 ROWS = ((2, -3, 0), (0, 1, -2))
@@ -39,11 +40,15 @@ INTERFACE = {
     "joining": {
         "beside": ("one", "width", "other", "more"), "dropped": ("told", "j"), "turned": ("told", "order"),
     },
+    "prices": {"cost": ("prices", "one"), "cheapest": ("told", "prices")},
+    "reading": {"read_system": ("text",), "read_paper": ("text",)},
+    "showing": {"show_system": ("system",), "show_paper": ("told", "paper")},
 }
 
 # Module, class, what it is made of, and its methods with what each takes.
 CLASSES = (
     ("finding", "Finder", ("rows", "caps"), {"step": (), "level": (), "told": (), "paper": (), "ended": ()}),
+    ("desk", "Desk", ("text",), {"say": ("line",)}),
 )
 
 # The walk of ROWS without caps, level by level.
@@ -59,6 +64,9 @@ FREE = (None, None, None)
 
 # The walk of the row (1, -1) with the side 1: (1, 0, 1) and (1, 1, 0) are answers.
 BEYOND = ((0, 0, 1), (0, 1, 0), (1, 0, 0), (1, 0, 1), (1, 1, 0))
+
+TEXT = "of x y\nsum 2 x = 3 y + 1\ncap y 4\nprice x 5"
+SYSTEM = (("x", "y"), ((2, -3),), (1,), (None, 4), (5, 0))
 
 # Module, function, what is handed in, what is told.
 CALLS = (
@@ -108,6 +116,15 @@ CALLS = (
     ("joining", "beside", (((3, 2),), 2, ((4,),), 1), ((0, 0, 4), (3, 2, 0))),
     ("joining", "dropped", (((3, 0), (0, 2)), 1), ((3,),)),
     ("joining", "turned", (((1, 2, 3),), (1, 2, 0)), ((2, 3, 1),)),
+    ("prices", "cost", ((2, MANY), (3, 4)), 4 * MANY + 6),
+    ("prices", "cheapest", (((2, 0), (1, 1), (0, 3)), (1, 1)), (2, (1, 1))),
+    ("prices", "cheapest", ((), (1, 1)), None),
+    ("reading", "read_system", (TEXT,), SYSTEM),
+    ("reading", "read_paper", ("least 3 2\nstep 0 1",), (((3, 2),), ((0, 1),))),
+    ("reading", "read_paper", ("",), ((), ())),
+    ("showing", "show_system", (SYSTEM,), TEXT),
+    ("showing", "show_paper", (((3, 2),), ((0, 1),)), "least 3 2\nstep 0 1"),
+    ("showing", "show_paper", ((), ()), ""),
 )
 
 # Module, function, what is handed in, what it is refused with.
@@ -123,6 +140,16 @@ REFUSED = (
     ("sides", "laid_beyond", (((1, 0),), ((1, 1),), (2, 3)), NoLay),
     ("narrowing", "narrowed", (((0, 1), (1, 0)), (2, -3), 5), TooMany),
     ("narrowing", "by_rows", (((2, -3),), 2, 5), TooMany),
+    ("reading", "read_system", (TEXT + "\n",), NoText),
+    ("reading", "read_paper", ("step 3 2\nleast 0 1",), NoText),
+    ("desk", "Desk", (TEXT + "\ncap y 4",), NoText),
+)
+
+# What is said to a desk of TEXT, and its answer, None where it is refused with NoLine.
+SAID = (
+    ("least 2000", "3 2"), ("beyond 2000", "2 1 | 3 2"), ("cheapest 2000", "10: 2 1"), ("rows 2000", "2 1"),
+    ("way 3 2", "x y x y x"), ("lay 2000 6 4", "2 * 3 2"), ("least 0", "too many"), ("way 1 1", "no answer"),
+    ("least 2001", None), ("", None), (None, None), (["least 3"], None),
 )
 
 
@@ -195,6 +222,19 @@ class ForAll(unittest.TestCase):
                     with self.assertRaises(refusal):
                         the_function(module, name)(*other_handed)
                     self.assertEqual(the_function(module, name)(*handed), told, name)
+
+    def test_a_desk_asked_again(self):
+        desk = Desk(TEXT)
+        for line, told in SAID + SAID[::-1] + SAID:
+            shown = repr(line)
+            if told is None:
+                with self.assertRaises(NoLine) as caught:
+                    desk.say(line)
+                self.assertIs(type(caught.exception), NoLine)
+            else:
+                self.assertEqual(desk.say(line), told)
+                self.assertIs(type(desk.say(line)), str)
+            self.assertEqual(repr(line), shown)
 
 
 if __name__ == "__main__":

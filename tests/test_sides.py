@@ -10,43 +10,13 @@ from leastlays.finding import least
 from leastlays.lays import is_lay
 from leastlays.sides import beyond, laid_beyond, shows_beyond, sided
 from tests.helper import (
-    BOXES, MANY, capped_box, is_vector, least_among, long_answer, long_least, long_levels, long_sums, units)
-
-# Rows, sides, and the numbers up to which all vectors are gone through: all least answers lie among these.
-SIDED = (
-    (((1, 1),), (3,), (4, 4)),
-    (((1, 1),), (-3,), (4, 4)),
-    (((2, -3),), (1,), (5, 5)),
-    (((2, -3),), (-1,), (5, 5)),
-    (((2, -3),), (7,), (6, 5)),
-    (((2, -4),), (1,), (4, 4)),
-    (((2, -4),), (-6,), (4, 4)),
-    (((1, -1, 0), (0, 1, -1)), (1, 2), (5, 5, 3)),
-    (((1, -1, 0), (0, 1, -1)), (-1, 2), (4, 4, 3)),
-    (((3, 5, -7),), (2,), (7, 7, 5)),
-    (((1, 1, -2),), (3,), (5, 5, 3)),
-    (((1, 2, 3),), (6,), (6, 3, 2)),
-    (((0, 0),), (0,), (2, 2)),
-    (((0, 0),), (1,), (2, 2)),
-    (((1, 2, 0), (0, 0, 1)), (4, 2), (4, 3, 3)),
-    (((1, 1, -1, -1),), (2,), (3, 3, 3, 3)),
-    (((MANY, -MANY),), (2 * MANY,), (4, 4)),
-    (((MANY, MANY),), (MANY,), (2, 2)),
-    (((MANY, MANY),), (MANY - 1,), (2, 2)),
-    (((5,),), (10,), (4,)),
-    (((5,),), (11,), (4,)),
-    (((5,),), (-10,), (4,)),
-)
+    BOXES, MANY, SIDED, capped_box, is_vector, least_among, long_answer, long_least, long_levels, long_sums, to_sides,
+    units)
 
 
 def sided_case(rows, sides, width):
     """The sided rows and their caps, by the words of point [17]."""
     return tuple([tuple(row) + (0 - side,) for row, side in zip(rows, sides)]), (None,) * width + (1,)
-
-
-def to_sides(rows, sides, tops):
-    """The vectors up to tops whose sums are the sides."""
-    return [one for one in capped_box(tops) if long_sums(rows, one) == list(sides)]
 
 
 class Sided(unittest.TestCase):
